@@ -15,9 +15,25 @@ PUMP = 11
 FITS = 12
 MUST = 13
 MAY = 14
+NEXT = 15
+LOOK = 16
+FIND = 17
+FROM = 18
+LEAST = 19
+LACKING = 20
+PART = 21
+COUNT = 22
+ALIKE = 23
+HARM = 24
+WEIGHTS = 25
+LITRES = 26
+MONEY = 27
+BACK = 28
+AGAIN = 29
+STATE = 30
 
 # How many whole numbers stand behind each call's number, ahead of its row if it has one.
-SIZES = (0, 4, 2, 2, 1, 2, 2, 2, 2, 1, 1, 2, 3, 2, 2, 1)
+SIZES = (0, 4, 2, 2, 1, 2, 2, 2, 2, 1, 1, 2, 3, 2, 2, 1, 1, 2, 2, 2, 2, 1, 1, 1, 1, 0, 0, 0, 0, 0, 0)
 
 
 class Call:

@@ -4,13 +4,10 @@ from breakersyard.parts import free_places, harmful_kinds, has_part, is_dry, is_
 from breakersyard.parts import must_come_off, take_off
 from breakersyard.refusals import DRY_ALREADY, IN_THE_WAY, NO_ROOM, NO_WAY, NOT_AS_TOLD, NOT_DRY, NOT_HAD
 from breakersyard.refusals import NOT_THERE, TANK_HAS_LESS, TANK_WOULD_SPILL
-from breakersyard.state import Car, Kind, Model, car_is_there, model_is_there, names_missing_kind, part_is_there
-from breakersyard.ways import lacking, least_way, must_by_way
+from breakersyard.state import MOST_CARS, MOST_KINDS, MOST_MODELS, Car, Kind, Model, car_is_there, model_is_there
+from breakersyard.state import names_missing_kind, part_is_there
+from breakersyard.ways import lacking, least_way, must_by_way, why_not_sought
 
-MOST_KINDS = 8
-MOST_MODELS = 6
-MOST_CARS = 8
-MOST_GATHERED = 3
 MOST_KIND_KG = 500
 MOST_MINUTES = 600
 MOST_MODEL_KG = 5000
@@ -55,7 +52,10 @@ def add_car(yard, m, lacks):
         return NO_ROOM
     model = yard.models[m]
     every_kind = (1 << len(yard.kinds)) - 1
-    yard.cars.append(Car(m, every_kind & ~lacks, model.litres, model.kg - kilograms_of(yard, lacks)))
+    car = Car(m, every_kind & ~lacks, model.litres, model.kg - kilograms_of(yard, lacks))
+    yard.cars.append(car)
+    yard.came_kg += car.kg
+    yard.came_litres += car.litres
     return len(yard.cars) - 1
 
 
@@ -108,15 +108,10 @@ def strip_for(yard, k, t):
     return take_off(yard, car, must)
 
 
-def can_be_gathered(yard, wanted):
-    return not names_missing_kind(yard, wanted) and 1 <= len(kinds_in(wanted)) <= MOST_GATHERED
-
-
 def gather_parts(yard, m, wanted):
-    if not model_is_there(yard, m):
-        return NOT_THERE
-    if not can_be_gathered(yard, wanted):
-        return NOT_AS_TOLD
+    refusal = why_not_sought(yard, m, wanted)
+    if refusal < 0:
+        return refusal
     lacks = lacking(yard, m, wanted)
     way = least_way(yard, m, lacks)
     if way is None:

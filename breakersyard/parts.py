@@ -5,6 +5,13 @@ def kinds_in(bits):
     return [t for t in range(bits.bit_length()) if (bits >> t) & 1 == 1]
 
 
+def bits_of(numbers):
+    bits = 0
+    for number in numbers:
+        bits = bits | (1 << number)
+    return bits
+
+
 def minutes_of(yard, bits):
     return sum([yard.kinds[t].minutes for t in kinds_in(bits)])
 

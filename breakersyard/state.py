@@ -1,6 +1,9 @@
 """The yard as it stands at one time."""
 
 PLACES = 30
+MOST_KINDS = 8
+MOST_MODELS = 6
+MOST_CARS = 8
 
 
 class Kind:
@@ -41,6 +44,8 @@ class Yard:
         self.models = []
         self.cars = []
         self.stock = [None] * PLACES
+        self.came_kg = 0
+        self.came_litres = 0
         self.tank = 0
         self.scrap = 0
         self.sold_kg = 0
@@ -62,6 +67,8 @@ def copied_yard(yard):
     twin.models = list(yard.models)
     twin.cars = [copied_car(car) for car in yard.cars]
     twin.stock = list(yard.stock)
+    twin.came_kg = yard.came_kg
+    twin.came_litres = yard.came_litres
     twin.tank = yard.tank
     twin.scrap = yard.scrap
     twin.sold_kg = yard.sold_kg

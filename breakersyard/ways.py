@@ -1,6 +1,21 @@
 """Some parts for a model: which lack, and the least way to have those."""
 
 from breakersyard.parts import has_part, is_dry, kinds_in, minutes_of, must_come_off
+from breakersyard.refusals import NOT_AS_TOLD, NOT_THERE
+from breakersyard.state import model_is_there, names_missing_kind
+
+MOST_GATHERED = 3
+
+
+def why_not_sought(yard, m, wanted):
+    """The refusal that is due before a way to have the wanted kinds (bits) is looked for, or 0."""
+    if not model_is_there(yard, m):
+        return NOT_THERE
+    if names_missing_kind(yard, wanted):
+        return NOT_AS_TOLD
+    if len(kinds_in(wanted)) < 1 or len(kinds_in(wanted)) > MOST_GATHERED:
+        return NOT_AS_TOLD
+    return 0
 
 
 def part_fits(yard, t, m, n):

@@ -71,6 +71,66 @@ def may_next(k):
     return [15, k]
 
 
+def look(k):
+    return [16, k]
+
+
+def find(t, m):
+    return [17, t, m]
+
+
+def had_from(t, m):
+    return [18, t, m]
+
+
+def least(m, types):
+    return [19, m, types]
+
+
+def lacking(m, types):
+    return [20, m, types]
+
+
+def part(i):
+    return [21, i]
+
+
+def count(t):
+    return [22, t]
+
+
+def alike(t):
+    return [23, t]
+
+
+def harm_in(k):
+    return [24, k]
+
+
+def weights():
+    return [25]
+
+
+def litres_told():
+    return [26]
+
+
+def money():
+    return [27]
+
+
+def back():
+    return [28]
+
+
+def again():
+    return [29]
+
+
+def state():
+    return [30]
+
+
 def rows_of(given_back):
     """What is given back, cut into one row for each call."""
     rows = []
@@ -86,7 +146,10 @@ def rows_of(given_back):
 
 def run(calls):
     """The rows that a list of calls answers."""
-    rows = rows_of(answers([number for call in calls for number in call]))
+    numbers = [number for call in calls for number in call]
+    if len(calls) > 1000 or len(numbers) > 20000:
+        raise AssertionError("more calls or numbers than are ever handed in")
+    rows = rows_of(answers(numbers))
     if len(rows) != len(calls):
         raise AssertionError("there is not one row for each call")
     return rows
@@ -105,20 +168,25 @@ def stocked(count):
     return calls + [off(n // 8, n % 8) for n in range(count)]
 
 
+def shown():
+    """Calls that only look, and show cars, stock, models, accounts, and how far it goes back and on."""
+    calls = [look(k) for k in range(8)] + [part(i) for i in range(30)] + [alike(t) for t in range(8)]
+    return calls + [weights(), litres_told(), money(), state()]
+
+
 def probe():
     """Calls that show all that can be seen of a yard: the answers differ if something in it does."""
-    calls = []
+    calls = shown() + [again()] + shown() + [back()] * 2 + shown() + [again()] * 2
     for k in range(9):
-        calls.append(may_next(k))
+        calls += [may_next(k), harm_in(k)]
         calls += [must(k, t) for t in range(8)]
-    calls += [fits(t, m, n) for t in range(8) for m in range(6) for n in range(m)]
     calls += [kind(), model(), gather(0, 1), gather(1, 2), gather(0, 4)]
     calls += [pump(1)] + [sell(i) for i in range(30)] + [cart()]
     calls += [drain(k) for k in range(8)] + [pump(1)]
     calls += [strip(k, t) for k in range(8) for t in range(8)]
     calls += [sell(i) for i in range(30)]
     calls += [call for k in range(8) for call in (crush(k), cart())]
-    return calls + [car()]
+    return calls + [car()] + shown()
 
 
 class YardCase(unittest.TestCase):

@@ -1,4 +1,4 @@
-"""Promise 6 without br_look: br_fits, br_must, br_may, br_next."""
+"""Promise 6 without br_look, which test_looking.py has: br_fits, br_must, br_may, br_next."""
 
 from tests.helper import (MOST, YardCase, car, crush, drain, fits, kind, may, may_next, model, must, off, probe, run,
                           start)

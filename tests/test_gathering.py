@@ -1,4 +1,4 @@
-"""Promise 4 without br_least: br_gather, what lacks, and the least way."""
+"""Promise 4 without br_least, which test_finding.py has: br_gather, what lacks, and the least way."""
 
 from tests.helper import (MOST, YardCase, car, crush, drain, gather, kind, may_next, model, must, off, run, sell,
                           start, stocked, strip)

@@ -106,6 +106,41 @@ class Language(unittest.TestCase):
                     bound.append(node.name)
             self.assertEqual(len(bound), len(set(bound)))
 
+    def drawn_from(self):
+        """Of each file the files that it draws from, and what from each."""
+        drawn = {}
+        for path, text, tree in self.each_file():
+            rows = [node for node in tree.body if isinstance(node, ast.ImportFrom)]
+            drawn[path.stem] = [(node.module.split(".")[1], one.name) for node in rows for one in node.names]
+            read = [node.id for node in ast.walk(tree) if isinstance(node, ast.Name)]
+            self.assertEqual([name for module, name in drawn[path.stem] if name not in read], [])
+        return drawn
+
+    def test_imports_are_from_the_file_that_defines_the_name(self):
+        defined = {}
+        for path, text, tree in self.each_file():
+            rows = [node for node in tree.body if isinstance(node, (ast.Assign, ast.FunctionDef, ast.ClassDef))]
+            defined[path.stem] = [row.targets[0].id if isinstance(row, ast.Assign) else row.name for row in rows]
+        for rows in self.drawn_from().values():
+            for module, name in rows:
+                self.assertIn(name, defined[module])
+
+    def test_no_two_files_draw_from_one_another(self):
+        drawn = {file: {module for module, name in rows} for file, rows in self.drawn_from().items()}
+        done = set()
+        while len(done) < len(drawn):
+            ready = {file for file in drawn if file not in done and drawn[file] <= done}
+            self.assertNotEqual(ready, set())
+            done |= ready
+
+    def test_no_value_of_an_object_is_called_like_one_of_pythons_own(self):
+        free = ("count", "index", "title", "find", "get", "join", "lower", "upper", "split", "strip", "copy", "add")
+        own = {name for kind in (str, int, list, dict, set, bytes) for name in dir(kind)} - set(free)
+        for path, text, tree in self.each_file():
+            for node in ast.walk(tree):
+                if isinstance(node, ast.Attribute) and isinstance(node.ctx, ast.Store):
+                    self.assertNotIn(node.attr, own)
+
     def test_names(self):
         for path, text, tree in self.each_file():
             imported = [one.name for node in tree.body if isinstance(node, ast.ImportFrom) for one in node.names]
