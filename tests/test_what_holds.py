@@ -35,6 +35,12 @@ def drawn_yard(draw):
     return calls + [drain(k) for k in range(8) if draw.random() < 0.7]
 
 
+def gone_back_and_on(draw):
+    """Some parts come off; some of that, or more, is taken back, and some of that done again."""
+    calls = [strip(draw.randrange(8), draw.randrange(8)) for step in range(5)]
+    return calls + [back()] * draw.randint(1, 4) + [again()] * draw.randint(0, 3)
+
+
 def drawn_change(draw, k, t, m):
     return draw.choice([
         kind(), model(draw.choice([10, 5000])), car(m, draw.getrandbits(8)), drain(k), off(k, t), off(k, t),
@@ -228,6 +234,8 @@ class MustComeOff(YardCase):
         for seed in range(40):
             draw = random.Random(seed)
             setup = drawn_yard(draw)
+            if seed % 2 == 0:
+                setup += gone_back_and_on(draw)
             for t in range(8):
                 row = run(setup + [may_next(0), must(0, t)])[-2:]
                 if row[0][0] > 0 and row[1][0] >= 0:
@@ -276,8 +284,10 @@ class LeastMinutes(YardCase):
         for seed in range(250):
             draw = random.Random(seed)
             setup = drawn_yard(draw)
-            if seed % 2 == 0:
+            if seed % 3 == 1:
                 setup += [strip(draw.randrange(8), draw.randrange(8)) for step in range(4)]
+            if seed % 3 == 2:
+                setup += gone_back_and_on(draw)
             types, lacks = self.wanted_of(draw, setup)
             ways = list(self.ways_to_strip(setup, lacks))
             with self.subTest(seed=seed, types=types):
@@ -304,11 +314,19 @@ class Fitting(YardCase):
     def test_each_fits_itself_either_way_and_on(self):
         groups = [[m // 2, m % 2, m, 0, 9, m // 3, m % 3, 5] for m in range(6)]
         setup = [start()] + [kind()] * 8 + [model(groups=one) for one in groups]
+        plain = self.look_at(setup)
+        gone = [start()] + [kind()] * 8 + [model(groups=range(8)), back()] + setup[9:] + [back()] * 4 + [again()] * 4
+        self.assertEqual(self.look_at(gone), plain)
+
+    def look_at(self, setup):
+        told = []
         for t in range(8):
             asked = list(itertools.product(range(6), repeat=2))
             rows = run(setup + [fits(t, m, n) for m, n in asked])[len(setup):]
+            told.append(rows)
             fit = {pair: row == [1] for pair, row in zip(asked, rows)}
             for m, n, o in itertools.product(range(6), repeat=3):
                 self.assertTrue(fit[m, m])
                 self.assertEqual(fit[m, n], fit[n, m])
                 self.assertTrue(fit[m, o] or not (fit[m, n] and fit[n, o]))
+        return told
